@@ -438,14 +438,17 @@ func TestSeen(t *testing.T) {
 	is(t, "at last", l, "refused", math.MaxInt)
 }
 
-// What is below 0 is no promise.
+// 0 stands for none alone: numbers that no site promises are held against each other all the same.
 func TestSeenBelowNothing(t *testing.T) {
 	l := tried(t, []int{1, 1, 1}, 5)
-	l.Hear(from(0, api.Tell, 5, true, api.State{Promise: -3}))
-	is(t, "below 0", l, "asking", 0)
-	l.Hear(from(1, api.Tell, 5, true, api.State{Promise: math.MinInt}))
-	l.Hear(from(1, api.Ack, 5, false, api.State{Promise: math.MinInt}))
-	is(t, "below 0", l, "refused", 0)
+	l.Hear(from(0, api.Tell, 5, true, api.State{Promise: math.MinInt}))
+	is(t, "the least", l, "asking", math.MinInt)
+	l.Hear(from(1, api.Tell, 5, true, api.State{Promise: -3}))
+	is(t, "more", l, "preparing", -3)
+	l.Hear(from(0, api.Ack, 5, true, api.State{Promise: -4}))
+	is(t, "less", l, "preparing", -3)
+	l.Hear(from(1, api.Ack, 5, false, api.State{}))
+	is(t, "0", l, "refused", 0)
 }
 
 // P71: what is passed over. Each of these would end the lead, were it heard.
@@ -570,12 +573,20 @@ func states(answers map[int]api.Frame) []api.State {
 	return out
 }
 
-func greatest(answers map[int]api.Frame) int {
-	n := 0
+// promises of answers; greatest of none is 0.
+func promises(answers map[int]api.Frame) []int {
+	var out []int
 	for _, f := range answers {
-		n = max(n, f.S.Promise)
+		out = append(out, f.S.Promise)
 	}
-	return n
+	return out
+}
+
+func greatest(l []int) int {
+	if len(l) == 0 {
+		return 0
+	}
+	return slices.Max(l)
 }
 
 // play tells the state, what was seen, and what the last frame made it send.
@@ -589,9 +600,11 @@ func (m model) play(heard []api.Frame) (state string, seen int, sent []api.Frame
 	all := func(answers map[int]api.Frame) bool { return len(answers) == len(m.w) }
 	phase, final := api.PreCommit, false
 	answers, at := m.first(heard, api.Vote, all)
+	var told []int
 	if m.attempt > 0 {
 		answers, at = m.first(heard, api.Tell, m.outweighs)
-		seen = greatest(answers)
+		told = promises(answers)
+		seen = greatest(told)
 		phase, final = table.Choose(states(answers))
 	}
 	switch {
@@ -605,7 +618,7 @@ func (m model) play(heard []api.Frame) (state string, seen int, sent []api.Frame
 		return "done", seen, last(at, api.Decide, phase)
 	}
 	acks, end := m.first(heard[at+1:], api.Ack, m.outweighs)
-	seen = max(seen, greatest(acks))
+	seen = greatest(append(told, promises(acks)...))
 	switch {
 	case end < 0:
 		return "preparing", seen, last(at, api.Pre, phase)
@@ -617,7 +630,7 @@ func (m model) play(heard []api.Frame) (state string, seen int, sent []api.Frame
 
 // anyFrame is right more often than not.
 func anyFrame(r *rand.Rand, sites, attempt int) api.Frame {
-	f := from(r.Intn(sites), asked(attempt), attempt, r.Intn(12) > 0, api.State{Phase: []int{0, 1, 4, 5, 4, 5, 4, 5, 2, 3}[r.Intn(10)], Promise: r.Intn(12), Attempt: r.Intn(12)})
+	f := from(r.Intn(sites), asked(attempt), attempt, r.Intn(12) > 0, api.State{Phase: []int{0, 1, 4, 5, 4, 5, 4, 5, 2, 3}[r.Intn(10)], Promise: r.Intn(14) - 9, Attempt: r.Intn(12)})
 	if r.Intn(2) == 0 {
 		f.Kind = api.Ack
 	}
