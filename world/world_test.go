@@ -68,6 +68,9 @@ func look(t *testing.T, x *world.World, sites int) view {
 		}
 	}
 	v.Flying = append([]api.Frame{}, x.Flying()...)
+	if n := x.InFlight(); n != len(v.Flying) {
+		t.Fatalf("InFlight: %d, and these fly: %v", n, v.Flying)
+	}
 	v.Events = append([]world.Event{}, x.Events()...)
 	return v
 }
